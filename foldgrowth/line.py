@@ -1,4 +1,4 @@
-"""The line that is put onto itself: what its pieces cover, its ways and its rounds.
+"""The line that is put onto itself: what its pieces cover, its ways, loops and rounds.
 
 A line is told by its spots: a list of where each of its points is put, from point 0 on.
 """
@@ -36,6 +36,22 @@ def one_step_more(spots, counts):
     return onward
 
 
+def one_step_ahead(spots, counts):
+    """From how many ways begin in each piece: how many do when a step is put ahead of each."""
+    ahead = [0] * len(counts)
+    for piece in range(len(counts)):
+        for other in covered(spots, piece):
+            ahead[piece] += counts[other]
+    return ahead
+
+
+def begins_in(spots, piece):
+    """One way of no steps, which begins and ends in this piece."""
+    begins = [0] * piece_count(spots)
+    begins[piece] = 1
+    return begins
+
+
 def way_ends(spots, begins, steps):
     """How many ways of so many steps end in each piece, where begins[i] of them begin in piece i."""
     counts = list(begins)
@@ -51,14 +67,59 @@ def length_of(spots, steps):
 
 def way_count(spots, first, last, steps):
     """How many ways of so many steps lead from the first piece to the last one."""
-    begins = [0] * piece_count(spots)
-    begins[first] = 1
-    return way_ends(spots, begins, steps)[last]
+    return way_ends(spots, begins_in(spots, first), steps)[last]
+
+
+def counts_onward(spots, last, most):
+    """For 0 steps, 1 and so on up to most: how many ways of so many lead from each piece to the last one."""
+    counts = begins_in(spots, last)
+    told = [counts]
+    for step in range(most):
+        counts = one_step_ahead(spots, counts)
+        told.append(counts)
+    return told
+
+
+def way_at(spots, first, last, steps, before):
+    """The way of so many steps from the first piece to the last one with so many before it, in order."""
+    onward = counts_onward(spots, last, steps)
+    skipped = before
+    way = [first]
+    for left in range(steps - 1, -1, -1):
+        counts = onward[left]
+        choices = covered(spots, way[-1])
+        at = 0
+        while skipped >= counts[choices[at]]:
+            skipped -= counts[choices[at]]
+            at += 1
+        way.append(choices[at])
+    return way
+
+
+def loops_by_piece(spots, most):
+    """For 1 step, 2 and so on up to most: how many loops of so many begin in each piece."""
+    ends = [begins_in(spots, piece) for piece in range(piece_count(spots))]
+    told = []
+    for step in range(most):
+        ends = [one_step_more(spots, counts) for counts in ends]
+        told.append([counts[piece] for piece, counts in enumerate(ends)])
+    return told
 
 
 def loop_count(spots, steps):
-    """How many loops of so many steps there are, one for each piece in which one begins."""
-    return sum([way_count(spots, piece, piece, steps) for piece in range(piece_count(spots))])
+    """How many loops of so many steps (1 or more) there are, one for each piece in which one begins."""
+    return sum(loops_by_piece(spots, steps)[-1])
+
+
+def steps_of_loops(spots, most):
+    """Of how many steps, up to most, there's a loop: 1 counts 1, and each one more twice as much."""
+    told = 0
+    weight = 1
+    for counts in loops_by_piece(spots, most):
+        if sum(counts) > 0:
+            told += weight
+        weight *= 2
+    return told
 
 
 def whole_loop_count(spots, steps):

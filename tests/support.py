@@ -4,6 +4,9 @@ from foldgrowth.pieces import answers
 
 HIGHEST = 4294967295
 
+# Each of its six pieces covers all six.
+FULL = (0, 6, 0, 6, 0, 6, 0)
+
 
 def begin(n):
     return [0, n]

@@ -50,14 +50,44 @@ class Form(unittest.TestCase):
         told = run(begin(6), *[row(*[HIGHEST] * 10) for k in range(399)])
         self.assertEqual(told, [[0]] + [[-22]] * 399)
 
+    def test_answers_on_ways_and_growth(self):
+        calls = [0, 2, 2, 3, 1, 2, 0, 8, 1, 1, 2, 1, 9, 3, 10, 11, 12, 13, 14, 1, 15, 0, 8, 0, 0, 1, 0, 14, 2]
+        self.assertEqual(answers(calls), [
+            1, 0,
+            1, 0,
+            4, 3, 1, 1, 1,
+            1, 4,
+            1, 1073741823,
+            1, 2,
+            1, -33,
+            8, 2, 1, 1, 0, 1, 1, 1, 1,
+            3, 2, 0, 1,
+            4, 2, 0, 1, 0,
+            1, -33,
+            1, -2,
+        ])
+
+    def test_each_number_is_a_plain_one(self):
+        for points in ([1, 2, 0], [0, 1, 2], [0, 0, 0]):
+            told = answers([0, 2, 2, 3, *points, 8, 1, 1, 2, 0, 9, 3, 10, 11, 12, 13, 14, 1, 15, 0])
+            for number in told:
+                self.assertIs(type(number), int)
+
+
+class LeftAlone(unittest.TestCase):
+    # Each call, answered and refused.
+    CALLS = [
+        4, 0, 2, 2, 3, 1, 2, 0, 1, 0, 0, 3, 4, 2, 2, 9, 9, 2, 3, 1, 2, 0, 5, 3, 5, 9, 6, 30, 6, 31, 7, 0, 0, 30,
+        8, 1, 1, 8, 33, 8, 1, 1, 8, 34, 9, 30, 9, 31, 10, 11, 12, 13, 14, 1, 14, 2, 15, 0, 15, 2, 0, 9, 0, 1, 12,
+    ]
+
     def test_what_is_handed_in_stays_as_it_was(self):
-        calls = [0, 2, 2, 3, 1, 2, 0, 1, 0, 0, 3, 4, 2, 2, 9, 9, 5, 2, 6, 30, 7, 0, 0, 30]
-        before = list(calls)
+        calls = list(self.CALLS)
         answers(calls)
-        self.assertEqual(calls, before)
+        self.assertEqual(calls, self.CALLS)
 
     def test_a_second_time_gives_the_same(self):
-        calls = [4, 0, 2, 2, 3, 1, 2, 0, 1, 0, 0, 3, 4, 5, 3, 6, 30, 7, 0, 0, 30]
+        calls = list(self.CALLS)
         first = answers(calls)
         kept = list(first)
         first.append(7)
@@ -69,8 +99,9 @@ class NotBegun(unittest.TestCase):
     OTHERS = [
         put(0, 0), put(9, 9), row(), row(0, 1), row(9), turn(), state(),
         has(1), has(0), has(7), length(0), length(31), ways(0, 0, 0), ways(9, 9, 31),
-        way(0, 0, 0, 0), way(9, 9, 9, 9), loops(1), loops(0), steps(), kind(), power(), shoe(),
-        room(0), room(9), loop(0), loop(9),
+        way(0, 0, 0, 0), way(9, 9, 9, 9), way(0, 9, 8, 0), way(0, 0, 9, 0), way(0, 0, 1, HIGHEST),
+        loops(1), loops(0), loops(31), steps(), kind(), power(), shoe(),
+        room(0), room(9), room(HIGHEST), loop(0), loop(9), loop(HIGHEST),
     ]
 
     def test_each_other_call(self):

@@ -85,6 +85,7 @@ class Language(unittest.TestCase):
             self.assertRegex(node.module, r"^foldgrowth\.[a-z0-9_]+$")
             defined = ast.parse((PACKAGE / f"{node.module.split('.')[1]}.py").read_text()).body
             tops = [top.name for top in defined if isinstance(top, (ast.FunctionDef, ast.ClassDef))]
+            tops += [top.targets[0].id for top in defined if isinstance(top, ast.Assign)]
             for drawn in node.names:
                 self.assertIsNone(drawn.asname)
                 self.assertIn(drawn.name, tops)
@@ -101,6 +102,27 @@ class Language(unittest.TestCase):
         for name, node in nodes(ast.Attribute):
             if any(hasattr(kind, node.attr) for kind in kinds):
                 self.assertIn(node.attr, OWN_METHODS, name)
+
+    def test_walked_at_once(self):
+        # L23.
+        takers = "list tuple dict sorted sum any all enumerate zip min max".split()
+        walked = set()
+        for name, node in nodes((ast.For, ast.comprehension)):
+            walked.add((name, ast.dump(node.iter, include_attributes=True)))
+        for name, node in nodes(ast.Call):
+            if isinstance(node.func, ast.Name) and node.func.id in takers and node.args:
+                walked.add((name, ast.dump(node.args[0], include_attributes=True)))
+        for name, node in nodes(ast.Call):
+            kept = isinstance(node.func, ast.Name) and node.func.id in ("range", "zip", "enumerate", "reversed")
+            kept = kept or isinstance(node.func, ast.Attribute) and node.func.attr in ("items", "keys", "values")
+            if kept:
+                self.assertIn((name, ast.dump(node, include_attributes=True)), walked, f"{name} {node.lineno}")
+
+    def test_exponents(self):
+        # L27.
+        for name, node in nodes(ast.BinOp):
+            if isinstance(node.op, ast.Pow):
+                self.assertIsInstance(node.right, ast.Constant, name)
 
     def test_assignments(self):
         for name, node in nodes(ast.Assign):

@@ -3,25 +3,8 @@
 import itertools
 import unittest
 
-from support import HIGHEST, ask, begin, length, run, state, turn, ways
-
-FULL = (0, 6, 0, 6, 0, 6, 0)
-
-
-def covers(points, i, j):
-    """Whether piece j lies between where piece i's beginning and its end are put."""
-    one, other = points[i], points[i + 1]
-    return (one <= j and j + 1 <= other) or (other <= j and j + 1 <= one)
-
-
-def all_ways(points, k):
-    """Each way of k steps, found by trying each row of pieces."""
-    pieces = range(len(points) - 1)
-    found = []
-    for walk in itertools.product(pieces, repeat=k + 1):
-        if all(covers(points, walk[at], walk[at + 1]) for at in range(k)):
-            found.append(walk)
-    return found
+from search import all_ways
+from support import FULL, HIGHEST, ask, begin, length, run, state, turn, ways
 
 
 class Length(unittest.TestCase):
